@@ -19,17 +19,6 @@ type hub struct{ *coord.Coord }
 // Up is always true: the coordinator does not crash.
 func (h hub) Up() bool { return true }
 
-// Take hands on what workers say; to all else a coordinator is deaf.
-func (h hub) Take(m any) []api.Letter {
-	if hello, ok := m.(api.Hello); ok {
-		return h.Coord.Take(hello)
-	}
-	if reply, ok := m.(api.Reply); ok {
-		return h.Coord.Take(reply)
-	}
-	return nil
-}
-
 // hand is a worker as a node.
 type hand struct{ *worker.Worker }
 
@@ -42,4 +31,11 @@ func (h hand) Take(m any) []api.Letter {
 // Wake needs no draw: a worker has no delays.
 func (h hand) Wake(draw int) []api.Letter {
 	return h.Worker.Wake()
+}
+
+// meant reports whether a node listens to a message at all: workers speak to the coordinator, and it to them.
+func meant(to int, m any) bool {
+	_, hello := m.(api.Hello)
+	_, reply := m.(api.Reply)
+	return (to == coordinator) == (hello || reply)
 }

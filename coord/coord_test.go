@@ -85,9 +85,9 @@ func ticks(x *coord.Coord, n int) {
 }
 
 func TestNew(t *testing.T) {
-	bad := config()
-	bad.Lease = 0
-	for _, c := range []api.Config{bad, {}} {
+	noLease, noNet, noWord := config(), config(), config()
+	noLease.Lease, noNet.Net, noWord.Words = 0, 7, []string{""}
+	for _, c := range []api.Config{noLease, noNet, noWord, {}} {
 		if x, wrong := coord.New(c); x != nil || wrong != api.ErrArg {
 			t.Errorf("P24.1: New: %d", wrong)
 		}
@@ -276,7 +276,9 @@ func TestHedges(t *testing.T) {
 	x.Take(api.Reply{Query: 1, Worker: 2, Epoch: 1, Items: []api.Item{{Word: "ab"}}})
 	again := api.Ask{Query: 1, Seq: 1, Epoch: 1, Text: "ab", K: 1, Batch: 3, After: api.Item{Word: "ab"}}
 	same(t, "P24.4: at 9, the next batch", x.Wake(0), api.Letter{To: 1, Msg: again})
-	ticks(x, 4)
+	ticks(x, 1)
+	same(t, "P24.4: at 10, too early for all", x.Wake(0))
+	ticks(x, 3)
 	same(t, "P24.4: at 13, a retry", x.Wake(0), api.Letter{To: 2, Msg: again})
 	ticks(x, 1)
 	same(t, "P24.4: at 14, a hedge of the next batch", x.Wake(0), api.Letter{To: 3, Msg: again})

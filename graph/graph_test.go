@@ -187,7 +187,7 @@ func TestNoSuchNode(t *testing.T) {
 	if to, ok := g.Next(0, 'b'); to != 0 || ok {
 		t.Errorf("P8.1: Next(0, b) = %d, %v", to, ok)
 	}
-	for _, w := range []string{"a", "abb", "\xff", "a\xff", "\ufffd", ""} {
+	for _, w := range []string{"a", "abb", "xab", "abab", "ab\xffab", "\xff", "a\xff", "\ufffd", ""} {
 		if g.Has(w) {
 			t.Errorf("P8.1: Has(%q)", w)
 		}

@@ -138,9 +138,11 @@ func TestDecodeErrors(t *testing.T) {
 			t.Errorf("P15.1: Decode of %d bytes: %v, %d", len(b), m, wrong)
 		}
 	}
-	for _, b := range [][]byte{wrongSum, {0, 7, 1, 0, 0, 0, 0}} {
+	longest := make([]byte, 1024)
+	longest[0], longest[4] = 4, 1
+	for _, b := range [][]byte{wrongSum, {0, 7, 1, 0, 0, 0, 0}, longest} {
 		if m, wrong := msg.Decode(b); m != nil || wrong != api.ErrSum {
-			t.Errorf("P15.1: Decode(%v) = %v, %d", b, m, wrong)
+			t.Errorf("P15.1: Decode of %d bytes = %v, %d", len(b), m, wrong)
 		}
 	}
 	for name, b := range map[string][]byte{

@@ -5,6 +5,7 @@ import (
 	"math/rand/v2"
 	"slices"
 	"strconv"
+	"strings"
 	"testing"
 
 	"inkhorn/api"
@@ -138,6 +139,17 @@ func TestRoundTrip(t *testing.T) {
 		if made.Nodes() != g.Nodes() {
 			t.Fatalf("P9.2: %d nodes became %d", made.Nodes(), g.Nodes())
 		}
+	}
+}
+
+// TestMostPrefixes has as many beginnings of words as there can be.
+func TestMostPrefixes(t *testing.T) {
+	var words []string
+	for i := range 60 {
+		words = append(words, string(rune('A'+i))+strings.Repeat("x", 11))
+	}
+	if g, wrong := pack.Decode(imageOf(t, words...)); wrong != api.OK || !slices.Equal(g.Words(), words) {
+		t.Errorf("P9.2: the image of sixty long words: %d", wrong)
 	}
 }
 

@@ -112,6 +112,15 @@ func TestAgainstList(t *testing.T) {
 	}
 }
 
+func TestAllIsFresh(t *testing.T) {
+	q := queue.New()
+	q.Push(ask(0, 0, 1, 1))
+	q.All()[0] = ask(3, 3, 3, 3)
+	if !slices.Equal(q.All(), []api.Ask{ask(0, 0, 1, 1)}) {
+		t.Errorf("R4: All: %v", q.All())
+	}
+}
+
 func TestNil(t *testing.T) {
 	var q *queue.Queue
 	a, ok := q.Pop()

@@ -51,6 +51,10 @@ func TestPending(t *testing.T) {
 	if got := trace.Pending(example); !slices.Equal(got, []int{1}) {
 		t.Errorf("P26.1: Pending = %v", got)
 	}
+	both := []api.Rec{{Got: -1, Sent: []api.Sent{{ID: 4}, {ID: 6}}}, {Got: 4}, {Got: -1, Lost: []int{4}}}
+	if got := trace.Pending(both); !slices.Equal(got, []int{6}) {
+		t.Errorf("P26.1: Pending = %v", got)
+	}
 	early := []api.Rec{{Got: 3}, {Got: -1, Sent: []api.Sent{{ID: 3}, {ID: 2}, {ID: 1}}}, {Got: -1, Lost: []int{1}}}
 	if got := trace.Pending(early); !slices.Equal(got, []int{2}) {
 		t.Errorf("P26.1: Pending = %v", got)

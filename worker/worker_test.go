@@ -148,6 +148,25 @@ func TestAsks(t *testing.T) {
 	}
 }
 
+// TestZeroNumbers has a request that a Stop of zeros would take out.
+func TestZeroNumbers(t *testing.T) {
+	w := open(t, 1)
+	w.Take(api.Grant{Worker: 1, Life: 1, Epoch: 2})
+	zero := ask(0, 2)
+	zero.Slot, zero.Query = 0, 0
+	w.Take(zero)
+	for _, m := range []any{api.Hello{}, api.Grant{}, api.Reply{}, ask(1, 2), nil} {
+		w.Take(m)
+		if !slices.Equal(w.Waiting(), []api.Ask{zero}) {
+			t.Errorf("P21.2: %#v has an effect", m)
+		}
+	}
+	w.Take(api.Stop{})
+	if len(w.Waiting()) != 0 {
+		t.Error("P21.2: a Stop of zeros")
+	}
+}
+
 func TestWake(t *testing.T) {
 	w := open(t, 2)
 	if !reflect.DeepEqual(w.Wake(), hello(2, 1)) {
