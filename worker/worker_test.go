@@ -148,6 +148,24 @@ func TestAsks(t *testing.T) {
 	}
 }
 
+// TestDiskIsBorn has a disk that counts on while the worker is up.
+func TestDiskIsBorn(t *testing.T) {
+	w := open(t, 1)
+	w.Disk().Born()
+	if w.Life() != 2 || !reflect.DeepEqual(w.Wake(), hello(1, 1)) {
+		t.Errorf("P21.1: the life of the disk is %d, that of the worker: %v", w.Life(), w.Wake())
+	}
+	w.Take(api.Grant{Worker: 1, Life: 2, Epoch: 5})
+	if w.Epoch() != 0 {
+		t.Error("P21.2: a Grant for the life of the disk")
+	}
+	w.Take(api.Grant{Worker: 1, Life: 1, Epoch: 5})
+	w.Crash()
+	if w.Restart() != api.OK || w.Life() != 3 || !reflect.DeepEqual(w.Wake(), hello(1, 3)) {
+		t.Error("P21.1: the next life")
+	}
+}
+
 // TestZeroNumbers has a request that a Stop of zeros would take out.
 func TestZeroNumbers(t *testing.T) {
 	w := open(t, 1)
