@@ -89,7 +89,7 @@ func TestStates(t *testing.T) {
 
 func TestBoundsOfK(t *testing.T) {
 	q := []rune("ab")
-	for _, k := range []int{-1, 5, math.MinInt, math.MaxInt} {
+	for _, k := range []int{-1, api.MaxK + 1, 7, math.MinInt, math.MaxInt} {
 		s := auto.Start(q, k)
 		if len(s) != 0 || !auto.Dead(s) {
 			t.Errorf("P7.1: Start for %d = %v", k, s)
@@ -100,10 +100,21 @@ func TestBoundsOfK(t *testing.T) {
 		if d, ok := auto.Dist(q, k, s); d != 0 || ok {
 			t.Errorf("P7.1: Dist for %d = %d, %v", k, d, ok)
 		}
+		// What is a state for another bound is none for this one.
+		for _, other := range [][]api.Pos{auto.Start(q, 1), auto.Step(q, 1, auto.Start(q, 1), 'x'), auto.Start(q, api.MaxK)} {
+			for _, r := range []rune{'a', 'x'} {
+				if next := auto.Step(q, k, other, r); len(next) != 0 || !auto.Dead(next) {
+					t.Errorf("P7.1: Step of %v for %d with %q = %v", other, k, r, next)
+				}
+			}
+		}
 	}
 	for k := range api.MaxK + 1 {
 		if s := auto.Start(nil, k); !slices.Equal(s, []api.Pos{{}}) {
 			t.Errorf("P7.1: Start of nothing for %d = %v", k, s)
+		}
+		if next := auto.Step(q, k, auto.Start(q, k), 'a'); !slices.Equal(next, []api.Pos{{At: 1}}) {
+			t.Errorf("P7.1: Step for %d = %v", k, next)
 		}
 	}
 }
